@@ -64,7 +64,7 @@ func (w *writer) open() {
 func (w *writer) turns(n int) {
 	for range n {
 		w.move(false)
-		// Without a rule the other one signs each turn of which it is free to say something; that is a letter, too.
+		// Without a rule the other one signs each turn from freeTurn on as well, and sends that; w.turn is one further by now.
 		if w.fixed.App == "" && w.turn > freeTurn {
 			w.post()
 		}
